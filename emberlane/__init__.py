@@ -1,0 +1,1 @@
+"""Emberlane: lamps that kindle one another as they go out."""
