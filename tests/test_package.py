@@ -16,6 +16,25 @@ FUNCTIONS = {
         "rings": "(net)",
         "lap_of": "(net, lamp)",
     },
+    "alone": {
+        "place_alone": "(net, kindling, beat)",
+        "lights_alone": "(net, kindling, lamp)",
+        "gap_of": "(net, one, other)",
+    },
+    "fates": {
+        "fates": "(net, kindlings)",
+        "losses": "(net, kindlings)",
+        "burning_at": "(net, kindlings, beat)",
+        "lightings": "(net, kindlings, lamp, first, *, count=10)",
+        "losses_hold": "(net, kindlings, paper)",
+    },
+    "robbers": {
+        "robbed": "(net, kindlings)",
+        "root_of": "(net, kindlings, flame)",
+        "idle": "(net, kindlings)",
+        "without": "(net, kindlings, flames)",
+        "lasting": "(net, kindlings)",
+    },
 }
 
 METHODS = {

@@ -1,0 +1,23 @@
+"""The refusals that several files share."""
+
+from emberlane.errors import NoBeat, NoKindlings
+from emberlane.nets import are_kindlings, is_kindling_of_many, is_whole, need_net
+
+
+def need_kindling(net, kindling):
+    """Refuse what is no net, then what is no kindling of it."""
+    need_net(net)
+    if not is_kindling_of_many(kindling, len(net)):
+        raise NoKindlings("this is no kindling of the net")
+
+
+def need_kindlings(net, kindlings):
+    """Refuse what is no net, then what is no kindlings of it."""
+    if not are_kindlings(net, kindlings):
+        raise NoKindlings("these are no kindlings of the net")
+
+
+def need_beat(beat):
+    """Refuse what is no beat from 0 on."""
+    if not is_whole(beat) or beat < 0:
+        raise NoBeat("this is no beat from 0 on")
