@@ -246,3 +246,112 @@ def times(net, kindlings, factor):
 def later(kindlings, beats):
     """The kindlings so many beats later."""
     return [(beat + beats, lamp) for beat, lamp in kindlings]
+
+
+def net_of_rings(dice, most_rings=2, most_length=5, ways=3):
+    """A net by the dice of some rings of one to three lamps, some lamps that lead to them, and some that end."""
+    lamps = []
+    for _ in range(dice.randint(1, most_rings)):
+        first, many = len(lamps), dice.randint(1, 3)
+        # A length for all of the ring now and then, so that some lamps can burn for ever.
+        length = dice.choice([None, dice.randint(1, most_length)])
+        for at in range(many):
+            lamps.append((length or dice.randint(1, most_length), first + (at + 1) % many))
+    for _ in range(dice.randint(0, ways)):
+        lamps.append((dice.randint(1, most_length), dice.choice([*range(len(lamps)), None])))
+    return renumbered(lamps, dice.sample(range(len(lamps)), len(lamps)))
+
+
+def renumbered(lamps, places):
+    """The net in which each lamp, by its old number, has the number that stands at its place."""
+    told = [None] * len(lamps)
+    for at, (length, onward) in enumerate(lamps):
+        told[places[at]] = (length, None if onward is None else places[onward])
+    return tuple(told)
+
+
+def ring_cases(seed, many, most=6, **named):
+    """So many nets of rings with kindlings in any order of beats."""
+    dice = random.Random(seed)
+    cases = []
+    for _ in range(many):
+        net = net_of_rings(dice, **named)
+        kindlings = some_kindlings(dice, net, most, dice.choice((4, 12, 30)))
+        if kindlings and dice.random() < 0.4:
+            # All of one lamp, a length of it apart: these hardly rob one another.
+            lamp = kindlings[0][1]
+            kindlings = [(beat // net[lamp][0] * net[lamp][0], lamp) for beat, _ in kindlings]
+        if dice.random() < 0.5:
+            dice.shuffle(kindlings)
+        cases.append((net, kindlings))
+    return cases
+
+
+def rows_of_embers(net, kindlings, beats):
+    """What happens at so many beats by an Embers, or None where none can be asked.
+
+    A list in any order of beats is let out of lamps of its own, as by walk_of_embers, where the net has place for them.
+    """
+    if len(net) + len(kindlings) <= 12 and beats < 4000:
+        many = len(net)
+        embers = Embers(net + tuple((beat + 1, lamp) for beat, lamp in kindlings))
+        for flame in range(len(kindlings)):
+            embers.kindle(many + flame)
+        go_to(embers, beats + 1)
+        return [(row[0], row[1] - 1) + row[2:] for row in embers.happened() if row[2] < many]
+    due = [beat for beat, _ in kindlings]
+    if due != sorted(due) or beats > 4000:
+        return None
+    embers = Embers(net)
+    for beat, lamp in kindlings:
+        go_to(embers, beat)
+        embers.kindle(lamp)
+    go_to(embers, beats)
+    return embers.happened()
+
+
+def go_to(embers, beat):
+    """Let the Embers go till this beat is the coming one."""
+    while embers.coming() < beat:
+        embers.go(beats=min(400, beat - embers.coming()))
+
+
+def long_walk(net, kindlings, beats):
+    """Like walk, by an Embers where it can be asked: what burns is told by the lightings then."""
+    rows = rows_of_embers(net, kindlings, beats)
+    if rows is None:
+        return walk(net, kindlings, beats)
+    pictures = [[None] * len(net) for _ in range(beats)]
+    for row in rows:
+        if row[0] == "lit":
+            _, beat, lamp, flame = row
+            for burnt in range(min(net[lamp][0], beats - beat)):
+                pictures[beat + burnt][lamp] = (flame, burnt)
+    return rows, pictures
+
+
+def walk_to_rest(net, kindlings):
+    """(first, round, rows, pictures) by a walk that is gone on till what burns has come again, and three rounds on.
+
+    Behind the last kindling all hangs on what burns: so what has come again once comes again for ever.
+    """
+    last = max([beat for beat, _ in kindlings], default=0)
+    beats = last + 60
+    while True:
+        pictures = long_walk(net, kindlings, beats)[1]
+        seen = {}
+        for beat in range(last, beats):
+            picture = tuple(pictures[beat])
+            if picture in seen:
+                again = beat - seen[picture]
+                first = seen[picture]
+                while first > 0 and pictures[first - 1] == pictures[first - 1 + again]:
+                    first -= 1
+                return (first, again) + long_walk(net, kindlings, max(first, last) + 3 * again + 1)
+            seen[picture] = beat
+        beats *= 2
+
+
+def lamps_alone(picture):
+    """What burns, the flames aside: for each lamp None or how many beats ago it was lit."""
+    return [part and part[1] for part in picture]

@@ -35,6 +35,32 @@ FUNCTIONS = {
         "without": "(net, kindlings, flames)",
         "lasting": "(net, kindlings)",
     },
+    "rests": {
+        "rest_of": "(net, kindlings)",
+        "round_of_lamps": "(net, kindlings)",
+        "gaps": "(net, kindlings, lamp)",
+        "burns_from": "(net, kindlings, lamp)",
+        "can_burn": "(net, lamp)",
+        "keepers": "(net, lamp, beat)",
+    },
+    "rooms": {
+        "first_room": "(net, kindlings, lamp, beat)",
+        "rooms": "(net, kindlings, lamp)",
+        "more": "(net, kindlings, lamp)",
+        "settings": "(net, lamp, flames)",
+        "setting": "(net, lamp, flames, number)",
+    },
+    "parts": {
+        "parted": "(net, lamp, part)",
+        "together": "(net, lamp)",
+        "none_lost_at": "(net, kindlings, lamp)",
+    },
+    "texts": {
+        "show_net": "(net)",
+        "show_kindlings": "(net, kindlings)",
+        "show_happened": "(rows)",
+        "read_story": "(text)",
+    },
 }
 
 METHODS = {
